@@ -1,0 +1,1 @@
+"""Fretways: chords and tunes on necks of strings."""
