@@ -4,7 +4,7 @@ import unittest
 
 from fretways.errors import BadNeck
 from fretways.necks import bare, missing, notes, places
-from refusals import BAD_NECKS, RefusalCase
+from shared_by_tests import BAD_NECKS, RefusalCase
 
 GUITAR = ((16, 21, 26, 31, 35, 40), 20, 0)
 

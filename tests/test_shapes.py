@@ -5,14 +5,9 @@ from itertools import product
 
 from fretways.errors import BadHand, BadNeck, BadShape
 from fretways.shapes import apart, can_lay, slid, sounded
-from refusals import BAD_HANDS, BAD_NECKS, BAD_SHAPES, NECK, RefusalCase
+from shared_by_tests import BAD_HANDS, BAD_NECKS, BAD_SHAPES, NECK, RefusalCase, all_shapes
 
 SIX = ((16, 21, 26, 31, 35, 40), 20, 0)
-
-
-def all_shapes(neck):
-    tuning, frets, capo = neck
-    return list(product([-1] + list(range(capo, frets + 1)), repeat=len(tuning)))
 
 
 class CanLayTest(RefusalCase):

@@ -6,15 +6,10 @@ from itertools import combinations, product
 from fretways.errors import BadChord, BadHand, BadNeck
 from fretways.necks import bare
 from fretways.shapes import can_lay, slid, sounded, ways
-from refusals import BAD_CHORDS, BAD_HANDS, BAD_NECKS, NECK, RefusalCase
+from shared_by_tests import BAD_CHORDS, BAD_HANDS, BAD_NECKS, NECK, RefusalCase, all_shapes
 
 HANDS = [(0, 0), (0, 1), (1, 2), (2, 3), (3, 2), (4, 4), (6, 6)]
 NECKS = [((10, 12, 15), 5, 0), ((10, 12, 15), 5, 2), ((12, 10, 12), 4, 4), ((10,), 6, 1), ((11, 10, 13, 10), 3, 0)]
-
-
-def all_shapes(neck):
-    tuning, frets, capo = neck
-    return list(product([-1] + list(range(capo, frets + 1)), repeat=len(tuning)))
 
 
 def laid(neck, shape, hand):

@@ -1,6 +1,7 @@
-"""What the tests share: wrong inputs, and how a refusal is asserted."""
+"""What the tests share: wrong inputs, all shapes of a neck, and how a refusal is asserted."""
 
 import unittest
+from itertools import product
 
 from fretways import errors
 
@@ -84,6 +85,12 @@ BAD_SHAPES = [
     (8, 3, 3),
     (3, 700, 3),
 ]
+
+
+def all_shapes(neck):
+    """All shapes of a neck, rising."""
+    tuning, frets, capo = neck
+    return list(product([-1] + list(range(capo, frets + 1)), repeat=len(tuning)))
 
 
 class RefusalCase(unittest.TestCase):
