@@ -1,6 +1,6 @@
-"""What a neck, a place, a shape, a hand and a chord are; whatever is none is refused."""
+"""What a neck, a place, a shape, a hand, a chord and a tune are; whatever is none is refused."""
 
-from fretways.errors import BadChord, BadHand, BadNeck, BadShape
+from fretways.errors import BadChord, BadHand, BadNeck, BadShape, BadTune
 
 SILENT = -1
 MOST_STRINGS = 6
@@ -9,6 +9,8 @@ MOST_FRETS = 20
 MOST_OF_HAND = 6
 MOST_NOTES = 6
 HIGHEST_NOTE = 80
+MOST_CHORDS = 6
+LONGEST_TUNE = 30
 
 
 def all_within(numbers, least, greatest):
@@ -58,11 +60,34 @@ def check_hand(hand):
         raise BadHand("reach and fingers are from 0 to 6")
 
 
-def check_chord(chord):
-    """Refuse what is no chord."""
+def check_reach(reach):
+    """Refuse what is no reach of a hand."""
+    if not 0 <= reach <= MOST_OF_HAND:
+        raise BadHand("a reach is from 0 to 6")
+
+
+def check_chord(chord, number=0):
+    """Refuse what is no chord; of a list of chords, the number tells which one it is."""
     if not 1 <= len(chord) <= MOST_NOTES:
-        raise BadChord("a chord has one to six notes")
+        raise BadChord("a chord has one to six notes", number)
     if not all_within(chord, 0, HIGHEST_NOTE):
-        raise BadChord("the notes of a chord are from 0 to 80")
+        raise BadChord("the notes of a chord are from 0 to 80", number)
     if not rises(chord):
-        raise BadChord("the notes of a chord rise")
+        raise BadChord("the notes of a chord rise", number)
+
+
+def check_chords(chords):
+    """Refuse what is no list of none to six chords."""
+    # Ahead of the chords themselves, with a number that none of up to six chords has.
+    if len(chords) > MOST_CHORDS:
+        raise BadChord("there are none to six chords", MOST_CHORDS)
+    for number, chord in enumerate(chords):
+        check_chord(chord, number)
+
+
+def check_tune(tune):
+    """Refuse what is no tune."""
+    if not 1 <= len(tune) <= LONGEST_TUNE:
+        raise BadTune("a tune has one to thirty notes")
+    if not all_within(tune, 0, HIGHEST_NOTE):
+        raise BadTune("the notes of a tune are from 0 to 80")

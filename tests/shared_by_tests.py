@@ -1,4 +1,4 @@
-"""What the tests share: wrong inputs, all shapes of a neck, and how a refusal is asserted."""
+"""What the tests share: wrong inputs, all shapes and ways of a neck, and how a refusal is asserted."""
 
 import unittest
 from itertools import product
@@ -67,6 +67,42 @@ BAD_CHORDS = [
     (70, 60, 50, 40, 30, 20),
 ]
 
+# Lists that hold a chord too many or a bad one, each with the number that the refusal tells.
+BAD_CHORD_LISTS = [
+    ([(40,)] * 7, 6),
+    ([(40, 45)] * 50, 6),
+    ([()] + [(40,)] * 6, 6),
+    ([(40,)] * 6 + [()], 6),
+    ([()] * 7, 6),
+    ([()], 0),
+    ([(), ()], 0),
+    ([(40,), (81,)], 1),
+    ([(40,), (45, 40), (-1,), (40,)], 1),
+    ([(40,)] * 3 + [(40, 40)], 3),
+    ([(40,)] * 5 + [(40, 900)], 5),
+]
+for _number in range(6):
+    for _chord in BAD_CHORDS:
+        BAD_CHORD_LISTS.append(([(40, 45)] * _number + [_chord] + [(40,)] * (5 - _number), _number))
+
+BAD_TUNES = [
+    [],
+    [40] * 31,
+    [40] * 300,
+    [-1],
+    [-1] * 31,
+    [-60, 40],
+    [81],
+    [40, 81],
+    [40, 45, 1000],
+    [40, -1, 45],
+    [40] * 29 + [81],
+    [40] * 29 + [-1],
+    [40, 81, 45],
+]
+
+BAD_REACHES = [-1, -40, 7, 300]
+
 # A neck with the capo between, and what is no shape on it.
 NECK = ((40, 45, 50), 7, 2)
 BAD_SHAPES = [
@@ -91,6 +127,24 @@ def all_shapes(neck):
     """All shapes of a neck, rising."""
     tuning, frets, capo = neck
     return list(product([-1] + list(range(capo, frets + 1)), repeat=len(tuning)))
+
+
+def laid(neck, shape, hand):
+    """Point 4 word by word, not by the program."""
+    pressed = [place for place in shape if place > neck[2]]
+    if len(pressed) > hand[1]:
+        return False
+    return not pressed or max(pressed) - min(pressed) <= hand[0]
+
+
+def ways_by_hand(neck, chord, hand):
+    """All ways of the chord, by trying all shapes of the neck one by one."""
+    found = []
+    for shape in all_shapes(neck):
+        heard = sorted(note + place for note, place in zip(neck[0], shape) if place != -1)
+        if heard == list(chord) and laid(neck, shape, hand):
+            found.append(shape)
+    return sorted(found)
 
 
 class RefusalCase(unittest.TestCase):

@@ -3,7 +3,7 @@
 import inspect
 import unittest
 
-from fretways import errors, necks, shapes
+from fretways import errors, necks, notes, shapes, tunes, tunings
 
 ARGUMENTS = {
     necks: {
@@ -18,6 +18,18 @@ ARGUMENTS = {
         "slid": ["neck", "shape", "far"],
         "apart": ["neck", "one", "other"],
         "can_lay": ["neck", "shape", "hand"],
+    },
+    tunes: {
+        "played": ["neck", "tune", "reach"],
+        "table": ["neck", "tune", "reach"],
+        "movement": ["playing"],
+    },
+    tunings: {
+        "retuned": ["neck", "chords", "hand"],
+    },
+    notes: {
+        "written": ["neck", "shape"],
+        "read": ["neck", "text"],
     },
 }
 REFUSALS = ["BadNeck", "BadShape", "BadHand", "BadChord", "BadTune", "BadText"]
@@ -40,6 +52,12 @@ class InterfaceTest(unittest.TestCase):
         self.assertEqual(shapes.slid(neck=neck, shape=(1, 2), far=3), (4, 5))
         self.assertEqual(shapes.apart(neck=neck, one=(1, 2), other=(4, 5)), 3)
         self.assertIs(shapes.can_lay(neck=neck, shape=(1, 2), hand=(1, 2)), True)
+        self.assertEqual(tunes.played(neck=neck, tune=[41], reach=0), (0, [(0, 1, 1)]))
+        self.assertEqual(tunes.table(neck=neck, tune=[41], reach=0), [[0, -1, -1, -1, -1]])
+        self.assertEqual(tunes.movement(playing=[(0, 1, 1), (0, 3, 3)]), 2)
+        self.assertEqual(tunings.retuned(neck=neck, chords=[(40,)], hand=(0, 0)), ((0, 0), []))
+        self.assertEqual(notes.written(neck=neck, shape=(1, -1)), "x 1")
+        self.assertEqual(notes.read(neck=neck, text="x 1"), (1, -1))
 
     def test_all_refusals_stand_straight_under_neck_error(self):
         self.assertEqual(errors.NeckError.__bases__, (ValueError,))

@@ -6,28 +6,10 @@ from itertools import combinations, product
 from fretways.errors import BadChord, BadHand, BadNeck
 from fretways.necks import bare
 from fretways.shapes import can_lay, slid, sounded, ways
-from shared_by_tests import BAD_CHORDS, BAD_HANDS, BAD_NECKS, NECK, RefusalCase, all_shapes
+from shared_by_tests import BAD_CHORDS, BAD_HANDS, BAD_NECKS, NECK, RefusalCase, all_shapes, ways_by_hand
 
 HANDS = [(0, 0), (0, 1), (1, 2), (2, 3), (3, 2), (4, 4), (6, 6)]
 NECKS = [((10, 12, 15), 5, 0), ((10, 12, 15), 5, 2), ((12, 10, 12), 4, 4), ((10,), 6, 1), ((11, 10, 13, 10), 3, 0)]
-
-
-def laid(neck, shape, hand):
-    """Point 4 word by word, not by the program."""
-    pressed = [place for place in shape if place > neck[2]]
-    if len(pressed) > hand[1]:
-        return False
-    return not pressed or max(pressed) - min(pressed) <= hand[0]
-
-
-def ways_by_hand(neck, chord, hand):
-    """All shapes of the neck, tried one by one."""
-    found = []
-    for shape in all_shapes(neck):
-        heard = sorted(note + place for note, place in zip(neck[0], shape) if place != -1)
-        if heard == list(chord) and laid(neck, shape, hand):
-            found.append(shape)
-    return sorted(found)
 
 
 class WaysTest(RefusalCase):
